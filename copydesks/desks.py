@@ -23,9 +23,12 @@ class Desk:
     def right_of(self, page):
         return self.copies[page][0] if page in self.copies else NONE
 
+    def waits(self):
+        return self.wish is not None
+
     def want(self, wish):
         # Waiting comes first: a desk that waits is refused even where its right is enough.
-        if self.wish is not None:
+        if self.waits():
             raise Waiting("the desk waits with a wish already")
         if self.may_do(wish):
             return ([self.do_wish(wish)], [])
@@ -39,7 +42,7 @@ class Desk:
 
     def rest(self, page):
         if self.right_of(page) == NONE:
-            raise NoCopy(f"the desk has no copy of page {page}")
+            raise NoCopy("the desk has no copy of the page")
         number = self.number_to_tell(page)
         self.hold(page, NONE, None)
         return [] if number is None else [gave_letter(page, number)]

@@ -374,6 +374,10 @@ class TestRest(DeskCase):
                 desk.take(("lend", 0, "write", 1))
                 self.check_refused(NoCopy, lambda: desk.rest(PAGE), desk)
 
+    def test_rest_of_a_page_too_long_for_python_to_write_out(self):
+        for page in (10 ** 5000, -(10 ** 5000)):
+            self.assertRaises(NoCopy, Desk().rest, page)
+
     def test_rest_with_read_sends_nothing(self):
         for wish in WISHES["read"]:
             with self.subTest(wish=wish):

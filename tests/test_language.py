@@ -90,15 +90,75 @@ def faults_of_node(node, own_methods):
     return faults
 
 
+def faults_of_comparison(node):
+    """`is` stands beside None, True and False alone."""
+    sides = [node.left] + node.comparators
+    return ["an is between other things" for place, sign in enumerate(node.ops)
+            if isinstance(sign, (ast.Is, ast.IsNot))
+            and not any(isinstance(side, ast.Constant) and side.value in (None, True, False)
+                        for side in sides[place:place + 2])]
+
+
+def local_names(tree):
+    """Parameters, and the names that are bound within functions."""
+    names = set()
+    for function in ast.walk(tree):
+        if isinstance(function, (ast.FunctionDef, ast.Lambda)):
+            names |= {node.arg for node in ast.walk(function) if isinstance(node, ast.arg)}
+            names |= {node.id for node in ast.walk(function)
+                      if isinstance(node, ast.Name) and isinstance(node.ctx, ast.Store)}
+    return names
+
+
+def faults_of_tree(tree):
+    faults = [fault for node in ast.walk(tree) if isinstance(node, ast.Compare) for fault in faults_of_comparison(node)]
+    tops = [thing for thing in tree.body if not isinstance(thing, (ast.ImportFrom, ast.FunctionDef, ast.ClassDef))]
+    faults += [f"a {thing.__class__.__name__} at the top" for thing in tops
+               if not isinstance(thing, ast.Assign) and not is_docstring(thing)]
+    taken = {thing.name for thing in tree.body if isinstance(thing, ast.ClassDef)}
+    taken |= {alias.asname or alias.name for thing in tree.body if isinstance(thing, ast.ImportFrom)
+              for alias in thing.names}
+    faults += [f"the local name {name}" for name in sorted(local_names(tree))
+               if name in taken or hasattr(builtins, name)]
+    inner = sum(isinstance(node, ast.ImportFrom) for node in ast.walk(tree))
+    if inner > sum(isinstance(thing, ast.ImportFrom) for thing in tree.body):
+        faults.append("an import within a function")
+    return faults
+
+
+def is_docstring(thing):
+    return isinstance(thing, ast.Expr) and isinstance(thing.value, ast.Constant) and isinstance(thing.value.value, str)
+
+
+def values_of(trees):
+    """The values that objects bear: attributes that something is stored under."""
+    return {node.attr for tree in trees for node in ast.walk(tree)
+            if isinstance(node, ast.Attribute) and isinstance(node.ctx, ast.Store)}
+
+
+def drawn_from(tree):
+    """For each name that a file draws, the file of the package that it comes from."""
+    return {alias.name: node.module.split(".", 1)[1] + ".py" for node in ast.walk(tree)
+            if isinstance(node, ast.ImportFrom) for alias in node.names}
+
+
+def defined_in(tree):
+    names = {thing.name for thing in tree.body if isinstance(thing, (ast.FunctionDef, ast.ClassDef))}
+    return names | {target.id for thing in tree.body if isinstance(thing, ast.Assign) for target in thing.targets}
+
+
 def faults_of(text, own_methods=frozenset()):
     tree = ast.parse(text)
-    return faults_of_text(text) + [fault for node in ast.walk(tree) for fault in faults_of_node(node, own_methods)]
+    return (faults_of_text(text) + faults_of_tree(tree)
+            + [fault for node in ast.walk(tree) for fault in faults_of_node(node, own_methods)])
 
 
 class TestPackage(unittest.TestCase):
     def setUp(self):
         self.files = sorted(PACKAGE.glob("*.py"))
         self.assertIn(PACKAGE / "__init__.py", self.files)
+        self.texts = {path.name: path.read_text(encoding="utf-8") for path in self.files}
+        self.trees = {name: ast.parse(text) for name, text in self.texts.items()}
 
     def test_nothing_but_python_files_lies_in_it(self):
         others = [path.name for path in PACKAGE.iterdir() if path not in self.files and path.name != "__pycache__"]
@@ -107,11 +167,26 @@ class TestPackage(unittest.TestCase):
             self.assertRegex(path.name, r"^(__init__|__main__|[a-z][a-z0-9_]*)\.py$")
 
     def test_every_file_keeps_to_the_rules(self):
-        texts = {path.name: path.read_text(encoding="utf-8") for path in self.files}
-        own_methods = methods_of([ast.parse(text) for text in texts.values()])
-        for name, text in texts.items():
+        own_methods = methods_of(self.trees.values())
+        for name, text in self.texts.items():
             with self.subTest(file=name):
                 self.assertEqual(faults_of(text, own_methods), [])
+
+    def test_no_name_is_a_method_in_one_class_and_a_value_in_another(self):
+        self.assertEqual(methods_of(self.trees.values()) & values_of(self.trees.values()), set())
+
+    def test_names_are_drawn_from_the_file_that_defines_them(self):
+        for name, tree in self.trees.items():
+            for drawn, source in drawn_from(tree).items():
+                with self.subTest(file=name, drawn=drawn):
+                    self.assertIn(drawn, defined_in(self.trees[source]))
+
+    def test_no_two_files_draw_from_one_another(self):
+        sources = {name: set(drawn_from(tree).values()) for name, tree in self.trees.items()}
+        for step in sources:
+            for name in sources:
+                sources[name] |= {further for source in list(sources[name]) for further in sources[source]}
+        self.assertEqual([name for name in sources if name in sources[name]], [])
 
 
 class TestTheWalkItself(unittest.TestCase):
@@ -124,7 +199,11 @@ class TestTheWalkItself(unittest.TestCase):
                      "def f(x):\n    return x / 2\n", "X = 1.5\n", "def f(*xs):\n    return xs\n",
                      "def _f():\n    return 1\n", "def f(x):\n    assert x\n", "def f(x):\n    return {x, 1}.sort()\n",
                      "def f(x):\n    return (y for y in x)\n", "# a type\n", "X = '\u00e4'\n", "X =\t1\n",
-                     "def f():\n    len = 1\n    return len\n"):
+                     "def f():\n    len = 1\n    return len\n", "def f(hash):\n    return hash\n",
+                     "def f(x, y):\n    return x is y\n", "print(1)\n", "for x in [1]:\n    pass\n",
+                     "def f():\n    from copydesks.desks import Desk\n    return Desk()\n",
+                     "from copydesks.desks import Desk\n\n\ndef f(Desk):\n    return Desk\n",
+                     "class Box:\n    pass\n\n\ndef f(x):\n    return [Box for Box in x]\n"):
             with self.subTest(text=text):
                 self.assertNotEqual(faults_of(text), [])
 
